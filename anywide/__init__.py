@@ -1,0 +1,1 @@
+"""Anywide: rows of deeds on words of every width."""
