@@ -65,23 +65,40 @@ def deed_carry(deed, held, told):
     return 0
 
 
+def carry_behind(row, carry, told):
+    """The carry that comes behind a carry; told are the bits of all values by it."""
+    return tuple([deed_carry(deed, held, told) for deed, held in zip(row[1], carry)])
+
+
 def next_carry(row, carry, bits):
     """The carry that comes behind a carry, by the bits of the inputs."""
-    told = bits_of(row, carry, bits)
-    return tuple([deed_carry(deed, held, told) for deed, held in zip(row[1], carry)])
+    return carry_behind(row, carry, bits_of(row, carry, bits))
+
+
+def steps(row, carry):
+    """For all bits of the inputs, in order, a pair: the bit of out, and the carry that comes behind."""
+    told = []
+    for bits in all_bits(row[0]):
+        all_told = bits_of(row, carry, bits)
+        told.append((all_told[row[2]], carry_behind(row, carry, all_told)))
+    return told
+
+
+def kept_steps(kept, row, carry):
+    """The steps of a row's carry, worked out once and then kept in the dict."""
+    if carry not in kept:
+        kept[carry] = steps(row, carry)
+    return kept[carry]
 
 
 def carries(row):
     """All carries that come from the first one on, whatever the bits, sorted: a new list."""
-    choices = all_bits(row[0])
     first = first_carry(row)
     seen = set()
     seen.add(first)
     waiting = [first]
     while waiting:
-        carry = waiting.pop()
-        for bits in choices:
-            after = next_carry(row, carry, bits)
+        for bit, after in steps(row, waiting.pop()):
             if after not in seen:
                 seen.add(after)
                 waiting.append(after)

@@ -170,6 +170,25 @@ class Form(unittest.TestCase):
                 for base in node.bases:
                     self.assertIn(base.id, made | {"ValueError"}, spot)
 
+    def test_local_names_are_no_imports_and_no_classes_of_their_file(self):
+        for path, tree in trees().items():
+            taken = {name for module, name in imported(tree)}
+            taken |= {node.name for node in tree.body if isinstance(node, ast.ClassDef)}
+            for node in ast.walk(tree):
+                if isinstance(node, ast.Name) and isinstance(node.ctx, ast.Store):
+                    self.assertNotIn(node.id, taken, self.spot(path, node))
+
+    def test_no_name_is_a_method_here_and_an_attribute_there(self):
+        methods, attributes = set(), set()
+        for path, node in nodes():
+            if isinstance(node, ast.ClassDef):
+                methods |= {part.name for part in node.body if isinstance(part, ast.FunctionDef)}
+            elif isinstance(node, ast.Attribute) and isinstance(node.ctx, ast.Store):
+                attributes.add(node.attr)
+        self.assertEqual(methods & attributes, set())
+        # Point 14 and the interface: these will be methods.
+        self.assertEqual(attributes & {"tell", "forget", "back", "row", "names", "kinds", "say"}, set())
+
     def test_methods_of_builtin_values(self):
         own = {
             part.name for path, node in nodes() if isinstance(node, ast.ClassDef)
