@@ -360,9 +360,10 @@ class Parting(Asked):
     def test_a_machine_of_very_many_states(self):
         states = 3000
         line = [[(int(at == states - 1), min(at + 1, states - 1)), (0, 0)] for at in range(states)]
-        self.told(line, 0, 1, [(0,)] * (states - 1))
+        # Not assertEqual, which would take very long to tell how so long lists differ.
+        self.assertTrue(parting(line, 0, 1) == [(0,)] * (states - 1))
         ring = [[(0, (at + 1) % states), (0, (7 * at + 3) % states)] for at in range(states)]
-        self.told(ring, 0, 1, None)
+        self.assertTrue(parting(ring, 0, 1) is None)
 
     def test_told_twice_with_the_first_one_changed_in_between(self):
         machine = least_machine(doubled(1, 3))
