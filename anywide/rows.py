@@ -51,6 +51,11 @@ def is_row(thing):
     return are_deeds(deeds, many) and is_number_below(out, many + len(deeds))
 
 
+def renumbered(deed, numbers):
+    """The deed with other numbers of values: for each of its own the one that numbers has at that place."""
+    return (deed[0],) + tuple([numbers[number] for number in deed[1:]])
+
+
 def deed_value(deed, told, size):
     """The value of a deed, not yet brought below size; told are the values ahead of it."""
     word = deed[0]

@@ -11,6 +11,9 @@ FUNCTIONS = {
     "counts": {"how_often": "row other width", "how_many": "row width word"},
     "turning": {"turned": "row", "is_turning": "row carries", "gone_back": "row width word"},
     "machines": {"least_machine": "row", "told_by": "machine width words", "parting": "machine one other"},
+    "atmost": {"at_most": "row other", "is_never_greater": "row other triples"},
+    "mending": {"fitting": "row", "put_otherwise": "row rule value", "mended": "row", "is_chain": "row thing"},
+    "joining": {"put_together": "row rows"},
 }
 
 
