@@ -51,7 +51,7 @@ def brought_back(row, value):
 def is_fitting(row, rule, value):
     """Whether a rule, which may be anything, fits at a value, which may be anything."""
     # Python would hold True for the value 1.
-    return isinstance(rule, str) and is_whole(value) and (rule, value) in fitting(row)
+    return is_whole(value) and (rule, value) in fitting(row)
 
 
 def put_by(row, rule, value):
@@ -86,9 +86,7 @@ def is_the_very(thing, wanted):
         if not isinstance(thing, tuple) or len(thing) != len(wanted):
             return False
         return all([is_the_very(part, wanted_part) for part, wanted_part in zip(thing, wanted)])
-    if isinstance(wanted, str):
-        return isinstance(thing, str) and thing == wanted
-    return is_whole(thing) and thing == wanted
+    return thing == wanted and (isinstance(wanted, str) or is_whole(thing))
 
 
 def is_step(row, thing):

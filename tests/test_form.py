@@ -2,6 +2,7 @@
 
 import ast
 import builtins
+import functools
 import io
 import keyword
 import pathlib
@@ -43,10 +44,12 @@ BARRED_NAMES = set(
 DUNDERS = {"__init__", "__iter__", "__len__", "__eq__", "__repr__", "__str__", "__call__"}
 
 
+@functools.lru_cache
 def sources():
     return {path: path.read_text("utf-8") for path in sorted(PACKAGE.glob("*.py"))}
 
 
+@functools.lru_cache
 def trees():
     return {path: ast.parse(text) for path, text in sources().items()}
 
@@ -186,8 +189,7 @@ class Form(unittest.TestCase):
             elif isinstance(node, ast.Attribute) and isinstance(node.ctx, ast.Store):
                 attributes.add(node.attr)
         self.assertEqual(methods & attributes, set())
-        # Point 14 and the interface: these will be methods.
-        self.assertEqual(attributes & {"tell", "forget", "back", "row", "names", "kinds", "say"}, set())
+        self.assertLessEqual({"tell", "forget", "back", "row", "names", "kinds", "say"}, methods)
 
     def test_methods_of_builtin_values(self):
         own = {

@@ -223,7 +223,7 @@ class PutOtherwise(Asked):
                     self.assertEqual(worth(row, 60, [word] * row[0]), worth(other, 60, [word] * row[0]))
 
     def test_each_rule_at_each_value_that_does_not_fit(self):
-        for row in rows_to_mend()[::2]:
+        for row in rows_to_mend()[::4]:
             fit = fitting(row)
             for rule in ("drop", "same"):
                 for value in NUMBERS:
@@ -403,7 +403,7 @@ class IsChain(Asked):
 
     def test_something_else_at_any_place(self):
         seen = {True: 0, False: 0}
-        for row in self.rows()[::40] + [spelled(1, "not 0", "not 1"), spelled(2, "add 0 1", "add 0 1", "xor 2 3")]:
+        for row in self.rows()[::80] + [spelled(1, "not 0", "not 1"), spelled(2, "add 0 1", "add 0 1", "xor 2 3")]:
             for other in exchanged(mended(row)):
                 seen[self.by_its_words(row, other)] += 1
         self.assertGreater(seen[False], 2000)
